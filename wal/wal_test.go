@@ -683,6 +683,23 @@ func TestP9_3_LaterSegments(t *testing.T) {
 	}, ops)
 }
 
+// TestP9_3_ANameInTheWay: a file that another hand made where the next segment is to stand; the first operation that isn't OK decides here too.
+func TestP9_3_ANameInTheWay(t *testing.T) {
+	eachEnd(t, "a name in the way", nil, func(d *disk.Disk) func() api.Errno {
+		l, _ := opened(t, d, 4, 1)
+		wants(t, "ahead of it", l.Append(list(put("a", "x"))), api.OK)
+		wants(t, "another hand", d.Create(seg2), api.OK)
+		return func() api.Errno {
+			e := l.Append(list(put("b", "y")))
+			tells(t, "a name in the way", l, 1, 1, 1, e)
+			if e == api.OK || l.Append(list(put("b", "y"))) == api.OK || l.Sync() == api.OK {
+				t.Errorf("a log that has failed with %d goes on", e)
+			}
+			return e
+		}
+	}, append([]op{{'s', seg1, nil}}, begun(seg2, head(2, 1, 1))...))
+}
+
 // TestP9_3_TheLastSegment: behind the number 2^64 - 1 there is none, and ErrIO stands for the Create, behind the Sync.
 func TestP9_3_TheLastSegment(t *testing.T) {
 	for _, c := range []struct {
